@@ -1,0 +1,1 @@
+"""Bags, and who's aboard: bagsaboard.airport answers the calls."""
