@@ -24,6 +24,8 @@ NOT_COMING = 2
 # Where a bag is.
 HALL = 0
 LOADED = 1
+FLOWN = 2
+HANDED_OUT = 3
 
 
 class Flight:
@@ -51,6 +53,7 @@ class Bag:
         self.owner = owner
         self.weight = weight
         self.place = HALL
+        # The number of the one in which it is loaded or has flown.
         self.container = None
         self.follows = False
 
@@ -76,6 +79,10 @@ def may_fly(airport, bag):
     return bag.follows or airport.passengers[bag.owner].standing == ABOARD
 
 
+def has_to_come_out(airport, bag):
+    return not bag.follows and airport.passengers[bag.owner].standing == NOT_COMING
+
+
 def weight_within(airport, container):
     return sum([airport.bags[number].weight for number in container.pile])
 
@@ -86,16 +93,48 @@ def has_room_for(airport, container, bag):
     return weight_within(airport, container) + bag.weight <= container.limit
 
 
+def containers_on_flight(airport, flight):
+    return [container for container in airport.containers if container.flight == flight]
+
+
 def bags_on_flight(airport, flight):
     found = []
-    for container in airport.containers:
-        if container.flight == flight:
-            found.extend(container.pile)
+    for container in containers_on_flight(airport, flight):
+        found.extend(container.pile)
     return found
 
 
 def bags_that_may_not_fly(airport, flight):
     return [number for number in bags_on_flight(airport, flight) if not may_fly(airport, airport.bags[number])]
+
+
+def bags_to_get_out(airport, container):
+    return [number for number in container.pile if has_to_come_out(airport, airport.bags[number])]
+
+
+# What is wanted is told from the lowest up, here and below.
+def moves_to_get_out(container, wanted):
+    if not wanted:
+        return 0
+    taken = len(container.pile) - container.pile.index(wanted[0])
+    # All that is taken out goes in again, but for what is wanted.
+    return taken + taken - len(wanted)
+
+
+def get_out(airport, container, wanted):
+    # The moves depend on how the bags lie, so they are counted ahead of the change.
+    moves = moves_to_get_out(container, wanted)
+    container.pile = [number for number in container.pile if number not in wanted]
+    for number in wanted:
+        bag = airport.bags[number]
+        bag.place = HALL
+        bag.container = None
+    airport.moves_made += moves
+    return moves
+
+
+def with_count(numbers):
+    return [len(numbers)] + numbers
 
 
 def add_flight(airport, told):
@@ -195,15 +234,107 @@ def take_bag_out(airport, told):
     bag = airport.bags[told[0]]
     if bag.place != LOADED:
         return [NOT_SO]
-    pile = airport.containers[bag.container].pile
-    below = pile.index(told[0])
-    # Each bag above is moved twice, out and in again; the bag itself once.
-    moves = 2 * (len(pile) - below - 1) + 1
-    pile.pop(below)
-    bag.place = HALL
-    bag.container = None
-    airport.moves_made += moves
+    return [get_out(airport, airport.containers[bag.container], [told[0]])]
+
+
+def count_moves(airport, told):
+    flight = told[0]
+    if airport.flights[flight].gone:
+        return [NOT_SO]
+    moves = 0
+    for container in containers_on_flight(airport, flight):
+        moves += moves_to_get_out(container, bags_to_get_out(airport, container))
     return [moves]
+
+
+def clear_flight(airport, told):
+    flight = told[0]
+    if airport.flights[flight].gone:
+        return [NOT_SO]
+    moves = 0
+    came_out = []
+    for container in containers_on_flight(airport, flight):
+        wanted = bags_to_get_out(airport, container)
+        moves += get_out(airport, container, wanted)
+        came_out.extend(wanted)
+    return [moves] + with_count(came_out)
+
+
+def let_go(airport, told):
+    flight = airport.flights[told[0]]
+    if flight.gone:
+        return [NOT_SO]
+    if bags_that_may_not_fly(airport, told[0]):
+        return [NOT_LET]
+    flight.gone = True
+    flying = bags_on_flight(airport, told[0])
+    for number in flying:
+        bag = airport.bags[number]
+        bag.place = FLOWN
+    return [len(flying)]
+
+
+def hand_out(airport, told):
+    bag = airport.bags[told[0]]
+    if bag.place != HALL:
+        return [NOT_SO]
+    if airport.passengers[bag.owner].standing != NOT_COMING:
+        return [WRONG_OWNER]
+    bag.place = HANDED_OUT
+    return [0]
+
+
+def tell_waiting(airport, told):
+    flight = told[0]
+    if airport.flights[flight].gone:
+        return [NOT_SO]
+    waiting = bags_that_may_not_fly(airport, flight)
+    return [len(waiting)] + with_count(waiting)
+
+
+def has_loaded_bag(airport, owner):
+    return any([bag.owner == owner and bag.place == LOADED for bag in airport.bags])
+
+
+def change_flight(airport, told):
+    passenger = airport.passengers[told[0]]
+    flight = told[1]
+    # Who has flown is still aboard.
+    if airport.flights[flight].gone or passenger.standing == ABOARD:
+        return [NOT_SO]
+    if has_loaded_bag(airport, told[0]):
+        return [NOT_LET]
+    passenger.flight = flight
+    passenger.standing = EXPECTED
+    return [0]
+
+
+def tell_place(airport, told):
+    bag = airport.bags[told[0]]
+    if bag.container is None:
+        return [bag.place] + with_count([])
+    below = airport.containers[bag.container].pile.index(told[0])
+    return [bag.place] + with_count([bag.container, below])
+
+
+def tell_pile(airport, told):
+    container = airport.containers[told[0]]
+    return [weight_within(airport, container)] + with_count(container.pile)
+
+
+def tell_state(airport, told):
+    flights = [int(flight.gone) for flight in airport.flights]
+    passengers = []
+    for passenger in airport.passengers:
+        passengers.extend([passenger.flight, passenger.standing])
+    bags = []
+    for bag in airport.bags:
+        bags.extend([bag.owner, bag.weight, bag.place, int(bag.follows)])
+    containers = []
+    for container in airport.containers:
+        containers.extend([container.flight, container.room, container.limit, len(container.pile)])
+    lists = with_count(flights) + with_count(passengers) + with_count(bags) + with_count(containers)
+    return [airport.moves_made] + lists
 
 
 # By the call's number: what does it, and what each of its numbers tells.
@@ -218,6 +349,15 @@ CALLS = (
     (stay_absent, ("passenger",)),
     (rush_bag, ("bag",)),
     (take_bag_out, ("bag",)),
+    (count_moves, ("flight",)),
+    (clear_flight, ("flight",)),
+    (let_go, ("flight",)),
+    (hand_out, ("bag",)),
+    (tell_waiting, ("flight",)),
+    (change_flight, ("passenger", "flight")),
+    (tell_place, ("bag",)),
+    (tell_pile, ("container",)),
+    (tell_state, ()),
 )
 
 

@@ -47,6 +47,42 @@ def out(bag_number):
     return [9, bag_number]
 
 
+def moves(flight_number):
+    return [10, flight_number]
+
+
+def clear(flight_number):
+    return [11, flight_number]
+
+
+def goes(flight_number):
+    return [12, flight_number]
+
+
+def hand(bag_number):
+    return [13, bag_number]
+
+
+def waits(flight_number):
+    return [14, flight_number]
+
+
+def next_on(person_number, flight_number):
+    return [15, person_number, flight_number]
+
+
+def where(bag_number):
+    return [16, bag_number]
+
+
+def list_of(box_number):
+    return [17, box_number]
+
+
+def state():
+    return [18]
+
+
 def joined(calls):
     return [number for call in calls for number in call]
 
@@ -63,11 +99,11 @@ def split_answers(given):
 
 
 def run(calls):
-    """The first number of each call's answer; the calls told here answer one number each."""
+    """Each call's answer: a number where it is one alone, a list where lists come with it."""
     found = split_answers(answers(joined(calls)))
-    if len(found) != len(calls) or any(len(answer) != 1 for answer in found):
-        raise AssertionError(f"not one number for each call: {found!r}")
-    return [answer[0] for answer in found]
+    if len(found) != len(calls):
+        raise AssertionError(f"not one answer for each call: {found!r}")
+    return [answer[0] if len(answer) == 1 else answer for answer in found]
 
 
 def airport_after(calls):
@@ -100,5 +136,15 @@ class AirportCase(unittest.TestCase):
 
     def check_refused(self, ahead, call, refusal):
         """The call is refused so behind the calls `ahead`, and all is as it was."""
-        self.check_answers(ahead, [call], [refusal])
-        self.check_refused_on(airport_after(ahead), call, refusal)
+        airport = airport_after(ahead)
+        look = [state()] + [list_of(number) for number in range(len(airport.containers))]
+        self.check_answers(ahead, [call] + look, [refusal] + run(ahead + look)[len(ahead):])
+        self.check_refused_on(airport, call, refusal)
+
+    def check_state(self, calls, made, flights, persons, bags, boxes):
+        """What state answers behind the calls, each list told as rows."""
+        expected = [made]
+        for rows in (flights, persons, bags, boxes):
+            numbers = joined(rows)
+            expected = expected + [len(numbers)] + numbers
+        self.check_answers(calls, [state()], [expected])

@@ -3,7 +3,8 @@
 import unittest
 
 from tests.helper import (
-    LARGEST, AirportCase, absent, aboard, airport_after, answer_call, bag, box, flight, leaves, load, out, person,
+    LARGEST, AirportCase, absent, aboard, bag, box, flight, goes, hand, leaves, list_of, load, next_on, out, person,
+    rush,
 )
 
 READY = [flight(), person(0), box(0, 3, 100), box(0, 20, 2000), bag(0, 10), bag(0, 20), bag(0, 30), bag(0, 40)]
@@ -17,10 +18,13 @@ class LoadTest(AirportCase):
     def test_put_on_top(self):
         self.check_answers(READY + [load(2, 0), load(0, 0), load(1, 0)], [out(1), out(0), out(2)], [1, 1, 1])
         self.check_answers(READY + [load(2, 0), load(0, 0), load(1, 0)], [out(2)], [5])
+        self.check_answers(READY + [load(2, 0), load(0, 0), load(1, 0)], [list_of(0)], [[60, 3, 2, 0, 1]])
 
     def test_is_one_move(self):
-        airport = airport_after(READY + [load(2, 0), load(0, 1)])
-        self.assertEqual(airport.moves_made, 2)
+        self.check_state(
+            READY + [load(2, 0), load(0, 1)], 2, [[0]], [[0, 0]],
+            [[0, 10, 1, 0], [0, 20, 0, 0], [0, 30, 1, 0], [0, 40, 0, 0]], [[0, 3, 100, 1], [0, 20, 2000, 1]],
+        )
 
     def test_owner_expected_or_aboard(self):
         self.check_answers(READY, [load(0, 0), aboard(0), load(1, 0)], [1, 0, 2])
@@ -36,14 +40,19 @@ class LoadTest(AirportCase):
         self.check_refused(READY + [load(0, 0)], load(0, 0), -4)
         self.check_refused(READY + [load(0, 0)], load(0, 1), -4)
 
+    def test_flown_or_handed_out(self):
+        self.check_refused(READY + [load(0, 0), aboard(0), goes(0)], load(0, 1), -4)
+        self.check_refused(READY + [absent(0), hand(0)], load(0, 0), -4)
+        self.check_refused(READY + [absent(0), hand(0), next_on(0, 0)], load(0, 0), -4)
+
     def test_flight_of_the_container_has_gone(self):
-        airport = airport_after(TWO_FLIGHTS)
-        airport.flights[1].gone = True
-        self.check_refused_on(airport, load(0, 1), -4)
-        self.check_refused_on(airport, load(0, 2), -2)
-        airport.bags[0].follows = True
-        self.check_refused_on(airport, load(0, 1), -4)
-        self.assertEqual(answer_call(airport, 4, [0, 0]), [1])
+        ahead = TWO_FLIGHTS + [goes(1)]
+        self.check_refused(ahead, load(0, 1), -4)
+        self.check_refused(ahead, load(0, 2), -2)
+        self.check_answers(ahead, [load(0, 0)], [1])
+        self.check_refused(ahead + [absent(0)], load(1, 1), -4)
+        self.check_refused(TWO_FLIGHTS + [goes(0)], load(0, 0), -4)
+        self.check_refused(TWO_FLIGHTS + [aboard(0), goes(0), goes(1), rush(0)], load(0, 1), -4)
 
     def test_owner_on_another_flight(self):
         self.check_refused(TWO_FLIGHTS, load(0, 1), -7)
@@ -114,18 +123,14 @@ class OrderTest(AirportCase):
         self.check_refused(TWO_FLIGHTS + [load(0, 0), absent(0)], load(1, 0), -6)
 
 
-class FollowingTest(AirportCase):
-    def test_goes_on_any_flight(self):
-        airport = airport_after(TWO_FLIGHTS)
-        airport.bags[0].follows = True
-        airport.bags[1].follows = True
-        self.check_refused_on(airport, load(1, 1), -5)
-        self.assertEqual(answer_call(airport, 4, [0, 1]), [1])
+class OtherFlightTest(AirportCase):
+    def test_owner_has_flown_and_the_bag_does_not_follow(self):
+        self.check_refused(TWO_FLIGHTS + [aboard(0), goes(0)], load(0, 1), -7)
 
-    def test_goes_without_its_owner(self):
-        airport = airport_after(TWO_FLIGHTS + [absent(0)])
-        airport.bags[0].follows = True
-        self.assertEqual(answer_call(airport, 4, [0, 0]), [1])
+    def test_owner_is_on_the_other_flight_from_now_on(self):
+        ahead = TWO_FLIGHTS + [next_on(0, 1)]
+        self.check_refused(ahead, load(0, 0), -7)
+        self.check_answers(ahead, [load(0, 1)], [1])
 
 
 if __name__ == "__main__":

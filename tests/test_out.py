@@ -1,8 +1,10 @@
-"""Point 5, of out alone."""
+"""Point 5, of out."""
 
 import unittest
 
-from tests.helper import LARGEST, AirportCase, absent, airport_after, bag, box, flight, load, out, person, run
+from tests.helper import (
+    LARGEST, AirportCase, aboard, absent, bag, box, flight, goes, hand, list_of, load, out, person, run, state,
+)
 
 FOUR = [flight(), person(0), box(0, 4, 10), box(0, 5, 50)] + [bag(0, 1)] * 5
 PILED = FOUR + [load(0, 0), load(1, 0), load(2, 0), load(3, 0)]
@@ -38,7 +40,7 @@ class OutTest(AirportCase):
         self.check_answers(FOUR + [load(2, 1)], [out(2)], [1])
 
     def test_others_lie_as_they_lay(self):
-        self.assertEqual(airport_after(PILED + [out(1)]).containers[0].pile, [0, 2, 3])
+        self.check_answers(PILED + [out(1)], [list_of(0)], [[3, 3, 0, 2, 3]])
         self.check_answers(PILED + [out(1)], [out(2)], [3])
         self.check_answers(PILED + [out(1)], [out(3)], [1])
 
@@ -63,7 +65,7 @@ class OutTest(AirportCase):
         self.check_answers(ahead, [out(19)], [1])
 
     def test_moves_are_added_up(self):
-        self.assertEqual(airport_after(PILED + [out(1), out(1)]).moves_made, 9)
+        self.assertEqual(run(PILED + [out(1), out(1), state()])[-1][0], 9)
 
     def test_as_by_hand(self):
         for seed in range(5 * 4 * 3):
@@ -74,8 +76,7 @@ class OutTest(AirportCase):
                 wanted = pile[wish]
                 moves, pile = moves_by_hand(pile, wanted)
                 calls = calls + [out(wanted)]
-                self.assertEqual(run(calls)[-1], moves)
-                self.assertEqual(airport_after(calls).containers[0].pile, pile)
+                self.assertEqual(run(calls + [list_of(0)])[-2:], [moves, [len(pile), len(pile)] + pile])
 
 
 class RefusedTest(AirportCase):
@@ -86,6 +87,10 @@ class RefusedTest(AirportCase):
     def test_not_loaded(self):
         self.check_refused(PILED, out(4), -4)
         self.check_refused(PILED + [out(1)], out(1), -4)
+
+    def test_flown_or_handed_out(self):
+        self.check_refused(PILED + [aboard(0), goes(0)], out(0), -4)
+        self.check_refused(FOUR + [absent(0), hand(0)], out(0), -4)
 
 
 if __name__ == "__main__":

@@ -3,7 +3,7 @@
 import unittest
 
 from tests.helper import (
-    LARGEST, AirportCase, absent, aboard, airport_after, answer_call, bag, box, flight, leaves, load, out, person,
+    LARGEST, AirportCase, absent, aboard, bag, box, clear, flight, goes, leaves, load, next_on, out, person, rush,
 )
 
 # Passengers 0 and 1 on flight 0, with two bags and one loaded; passenger 2 on flight 1, with one.
@@ -44,9 +44,12 @@ class StandingTest(AirportCase):
         self.check_answers(ahead, [aboard(3), leaves(3)], [3, 3])
 
     def test_following_bag_may_fly(self):
-        airport = airport_after(LOADED)
-        airport.bags[0].follows = True
-        self.assertEqual(answer_call(airport, 7, [0]), [2])
+        ahead = LOADED + [bag(2, 1), aboard(2), goes(1), rush(4), load(4, 0)]
+        self.check_answers(ahead, [aboard(0), leaves(0), absent(1)], [1, 3, 3])
+
+    def test_counts_on_the_flight_that_the_passenger_is_on_then(self):
+        ahead = LOADED + [absent(2), clear(1), next_on(2, 0)]
+        self.check_answers(ahead, [aboard(2), load(3, 1), leaves(2)], [3, 2, 4])
 
 
 class RefusedTest(AirportCase):
@@ -68,13 +71,14 @@ class RefusedTest(AirportCase):
                 self.check_refused(LOADED + ahead, call(0), -4)
 
     def test_flight_that_has_gone(self):
-        airport = airport_after(LOADED + [aboard(0)])
-        airport.flights[0].gone = True
-        self.check_refused_on(airport, leaves(0), -4)
-        self.check_refused_on(airport, aboard(1), -4)
-        self.check_refused_on(airport, absent(1), -4)
-        self.check_refused_on(airport, absent(3), -2)
-        self.assertEqual(answer_call(airport, 5, [2]), [0])
+        ahead = LOADED + [out(2), aboard(0), goes(0)]
+        self.check_refused(ahead, leaves(0), -4)
+        self.check_refused(ahead, aboard(0), -4)
+        self.check_refused(ahead, absent(0), -4)
+        self.check_refused(ahead, aboard(1), -4)
+        self.check_refused(ahead, absent(1), -4)
+        self.check_refused(ahead, absent(3), -2)
+        self.check_answers(ahead, [aboard(2)], [0])
 
     def test_a_refusal_leaves_the_standing(self):
         self.check_answers(LOADED, [leaves(0), aboard(0), absent(0), leaves(0)], [-4, 1, -4, 3])

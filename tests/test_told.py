@@ -3,7 +3,8 @@
 import unittest
 
 from tests.helper import (
-    LARGEST, AirportCase, absent, aboard, airport_after, answer_call, bag, box, flight, leaves, load, out, person, rush,
+    LARGEST, AirportCase, absent, aboard, bag, box, clear, flight, goes, hand, leaves, list_of, load, moves, next_on,
+    out, person, rush, waits, where,
 )
 
 TWO_FLIGHTS = [flight(), flight()]
@@ -49,12 +50,15 @@ class BoxTest(AirportCase):
         self.check_refused(full, box(0, 1, 2001), -1)
 
     def test_flight_that_has_gone(self):
-        airport = airport_after(TWO_FLIGHTS + [box(1, 1, 1)] * 12)
-        airport.flights[0].gone = True
-        self.check_refused_on(airport, box(0, 1, 1), -4)
-        self.check_refused_on(airport, box(0, 0, 0), -4)
-        self.check_refused_on(airport, box(1, 0, 0), -1)
-        self.check_refused_on(airport, box(2, 0, 0), -2)
+        ahead = TWO_FLIGHTS + [goes(0)]
+        self.check_refused(ahead, box(0, 1, 1), -4)
+        self.check_refused(ahead, box(0, 0, 0), -4)
+        self.check_answers(ahead, [box(1, 1, 1)], [0])
+        full = ahead + [box(1, 1, 1)] * 12
+        self.check_refused(full, box(0, 1, 1), -4)
+        self.check_refused(full, box(0, 0, 0), -4)
+        self.check_refused(full, box(1, 0, 0), -1)
+        self.check_refused(full, box(2, 0, 0), -2)
 
     def test_refused_box_takes_no_number(self):
         self.check_answers([flight(), box(0, 0, 0), box(3, 1, 1)], [box(0, 1, 1)], [0])
@@ -80,15 +84,11 @@ class PersonTest(AirportCase):
 
     def test_order_of_refusals(self):
         self.check_refused([flight()] + [person(0)] * 40, person(1), -2)
-        airport = airport_after([flight()] + [person(0)] * 40)
-        airport.flights[0].gone = True
-        self.check_refused_on(airport, person(0), -4)
+        self.check_refused([flight()] + [person(0)] * 40 + [goes(0)], person(0), -4)
 
     def test_flight_that_has_gone(self):
-        airport = airport_after(TWO_FLIGHTS)
-        airport.flights[1].gone = True
-        self.check_refused_on(airport, person(1), -4)
-        self.assertEqual(answer_call(airport, 2, [0]), [0])
+        self.check_refused(TWO_FLIGHTS + [goes(1)], person(1), -4)
+        self.check_answers(TWO_FLIGHTS + [goes(1)], [person(0)], [0])
 
 
 class BagTest(AirportCase):
@@ -130,17 +130,23 @@ class BagTest(AirportCase):
         self.check_answers(ahead, [bag(0, 1), bag(1, 1)], [0, 1])
 
     def test_flight_that_has_gone(self):
-        airport = airport_after(TWO_FLIGHTS + [person(0), person(1)] + [bag(1, 1)] * 60)
-        airport.flights[0].gone = True
-        self.check_refused_on(airport, bag(0, 1), -4)
-        self.check_refused_on(airport, bag(0, 0), -4)
-        self.check_refused_on(airport, bag(1, 0), -1)
-        self.check_refused_on(airport, bag(1, 1), -5)
+        for standing in ([], [aboard(0)], [absent(0)]):
+            ahead = TWO_FLIGHTS + [person(0), person(1)] + standing + [goes(0)]
+            self.check_refused(ahead, bag(0, 1), -4)
+            self.check_refused(ahead, bag(0, 0), -4)
+            self.check_answers(ahead, [bag(1, 1)], [0])
+            full = ahead + [bag(1, 1)] * 60
+            self.check_refused(full, bag(0, 1), -4)
+            self.check_refused(full, bag(1, 0), -1)
+            self.check_refused(full, bag(1, 1), -5)
 
 
 class NothingThereTest(AirportCase):
     def test_at_the_beginning_there_is_nothing(self):
-        for call in (box(0, 1, 1), person(0), bag(0, 1), load(0, 0), aboard(0), leaves(0), absent(0), rush(0), out(0)):
+        for call in (
+            box(0, 1, 1), person(0), bag(0, 1), load(0, 0), aboard(0), leaves(0), absent(0), rush(0), out(0), moves(0),
+            clear(0), goes(0), hand(0), waits(0), next_on(0, 0), where(0), list_of(0),
+        ):
             self.check_refused([], call, -2)
 
 
